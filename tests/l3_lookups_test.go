@@ -403,7 +403,7 @@ func itemLists(items []impl.Item, most int) [][]impl.Item {
 	return lists
 }
 
-// TestAllSmallLookups goes through all graphs of a module and of another scope beside or in it, each with at most two further items.
+// TestAllSmallLookups goes through two modules m and n, beside each other or one in the other, with all lists of at most two of four items ahead of them in each scope.
 func TestAllSmallLookups(t *testing.T) {
 	items := []impl.Item{declares("m"), declares("x"), imports("m"), imports("n")}
 	lists := itemLists(items, 2)
