@@ -412,12 +412,16 @@ func (r rest) meanings() map[impl.Place][]impl.Place {
 
 // changed tells by where they stood which items mean something else without one of them.
 func (r rest) changed(p impl.Place, before map[impl.Place][]impl.Place) []impl.Place {
-	after := r.without(p).meanings()
+	return r.differences(before, r.without(p).meanings())
+}
+
+// differences tells by where they stood which items are still there and mean something else after a change.
+func (r rest) differences(before, after map[impl.Place][]impl.Place) []impl.Place {
 	var list []impl.Place
 	for _, stood := range r.stood {
-		for _, q := range stood {
-			if q != p && !slices.Equal(after[q], before[q]) {
-				list = append(list, q)
+		for _, p := range stood {
+			if means, isThere := after[p]; isThere && !slices.Equal(means, before[p]) {
+				list = append(list, p)
 			}
 		}
 	}
