@@ -266,8 +266,21 @@ func TestLookupsOfInvalidGraphs(t *testing.T) {
 	}
 }
 
-// modelNames are the names of which a model knows.
+// modelNames are the names of which each model knows.
 const modelNames = "mnx"
+
+// namesFor returns the names of which the model of a graph knows: those of each model, and what other ones the graph has.
+func namesFor(g impl.Graph) string {
+	names := modelNames
+	for _, scope := range g.Scopes {
+		for _, x := range scope.Items {
+			if !strings.Contains(names, x.Name) {
+				names += x.Name
+			}
+		}
+	}
+	return names
+}
 
 // A modelScope is what a model knows of a scope: for each item what it would bring in, and for each name what is declared and found.
 type modelScope struct {
@@ -293,13 +306,14 @@ func modelOf(g impl.Graph) lookupModel {
 		}
 		m = append(m, here)
 	}
+	names := namesFor(g)
 	for s, scope := range g.Scopes {
 		around := &modelScope{}
 		if s > 0 {
 			around = m[scope.Parent]
 		}
 		m[s].resolve(g, scope.Items, around)
-		for _, letter := range modelNames {
+		for _, letter := range names {
 			m.answer(s, string(letter), around)
 		}
 	}

@@ -658,15 +658,26 @@ func TestMovedBack(t *testing.T) {
 	}
 }
 
-// TestAddingStays checks that no function of the chapter changes a graph, or the memory behind its scopes and items.
-func TestAddingStays(t *testing.T) {
+// watched returns a graph, and a function that checks that it is as it was, the memory behind its scopes and items included.
+func watched(t *testing.T) (impl.Graph, func()) {
 	build := func() ([]impl.Item, []impl.Item, []impl.Scope) {
 		items := []impl.Item{module("m", 1), declares("x"), imports("m"), refers("spare")}
 		more := []impl.Item{declares("y"), refers("m"), imports("x"), refers("spare"), refers("spare")}
 		return items, more, []impl.Scope{{Parent: -1, Items: items[:3]}, {Parent: 0, Items: more[:3]}, {Parent: 7}}
 	}
 	items, more, scopes := build()
-	g := impl.Graph{Scopes: scopes[:2]}
+	return impl.Graph{Scopes: scopes[:2]}, func() {
+		t.Helper()
+		wantItems, wantMore, wantScopes := build()
+		if !reflect.DeepEqual(items, wantItems) || !reflect.DeepEqual(more, wantMore) || !reflect.DeepEqual(scopes, wantScopes) {
+			t.Errorf("items became %v and %v, scopes %v", items, more, scopes)
+		}
+	}
+}
+
+// TestAddingStays checks that no function of the chapter changes a graph, or the memory behind its scopes and items.
+func TestAddingStays(t *testing.T) {
+	g, check := watched(t)
 	for s := -1; s < 3; s++ {
 		for _, name := range []string{"m", "x", "y", ""} {
 			impl.AddDeclaration(g, s, name)
@@ -683,10 +694,7 @@ func TestAddingStays(t *testing.T) {
 			}
 		}
 	}
-	wantItems, wantMore, wantScopes := build()
-	if !reflect.DeepEqual(items, wantItems) || !reflect.DeepEqual(more, wantMore) || !reflect.DeepEqual(scopes, wantScopes) {
-		t.Errorf("items became %v and %v, scopes %v", items, more, scopes)
-	}
+	check()
 }
 
 // roomy returns a graph of which each list of items has unused capacity.
