@@ -150,6 +150,17 @@ func (t *tree) all() iter.Seq2[Place, Item] {
 	}
 }
 
+// placesOf returns the places of all items of a kind.
+func (t *tree) placesOf(kind int) []Place {
+	var list []Place
+	for p, x := range t.all() {
+		if x.Kind == kind {
+			list = append(list, p)
+		}
+	}
+	return list
+}
+
 // isName reports whether a text is one letter from a to z.
 func isName(s string) bool {
 	return len(s) == 1 && s[0] >= 'a' && s[0] <= 'z'
@@ -324,13 +335,7 @@ func PlacesOf(g Graph, kind int) ([]Place, bool) {
 	if err != nil || kind < ItemDeclares || kind > ItemImports {
 		return nil, false
 	}
-	var list []Place
-	for p, x := range t.all() {
-		if x.Kind == kind {
-			list = append(list, p)
-		}
-	}
-	return list, true
+	return t.placesOf(kind), true
 }
 
 // NamesOf returns all names of a graph.

@@ -193,6 +193,7 @@ func isGraphText(text string) bool {
 
 // TestParseAllTexts goes through all short texts, and through all longer ones of the parts of texts.
 func TestParseAllTexts(t *testing.T) {
+	t.Parallel()
 	accepted := 0
 	check := func(text string) {
 		want := isGraphText(text)

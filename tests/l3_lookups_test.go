@@ -419,6 +419,7 @@ func itemLists(items []impl.Item, most int) [][]impl.Item {
 
 // TestAllSmallLookups goes through two modules m and n, beside each other or one in the other, with all lists of at most two of four items ahead of them in each scope.
 func TestAllSmallLookups(t *testing.T) {
+	t.Parallel()
 	items := []impl.Item{declares("m"), declares("x"), imports("m"), imports("n")}
 	lists := itemLists(items, 2)
 	for _, parent := range []int{0, 1} {
@@ -469,6 +470,7 @@ func (m *graphMaker) name() string { return string(modelNames[m.below(len(modelN
 
 // TestManyLookups goes through graphs of all sizes, and counts what they show, so that the test is known to see it.
 func TestManyLookups(t *testing.T) {
+	t.Parallel()
 	m := &graphMaker{}
 	ways := map[int]int{}
 	imported, circles := 0, 0

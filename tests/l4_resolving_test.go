@@ -438,6 +438,7 @@ func checkResolvingModel(t *testing.T, g impl.Graph, m lookupModel) resolveAnswe
 
 // TestAllSmallResolving goes through a module m in the first scope and a block beside it, with all lists of at most two of five items ahead of them in each scope.
 func TestAllSmallResolving(t *testing.T) {
+	t.Parallel()
 	items := []impl.Item{declares("m"), declares("x"), refers("m"), refers("x"), imports("m")}
 	lists := itemLists(items, 2)
 	for _, first := range lists {
@@ -452,6 +453,7 @@ func TestAllSmallResolving(t *testing.T) {
 
 // TestManyResolvings goes through graphs of all sizes, and counts what they show, so that the test is known to see it.
 func TestManyResolvings(t *testing.T) {
+	t.Parallel()
 	maker := &graphMaker{}
 	counts := map[string]int{}
 	for i := range 6000 {

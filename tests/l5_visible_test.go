@@ -351,6 +351,7 @@ func TestAllSmallVisible(t *testing.T) {
 
 // TestManyVisible goes through graphs of all sizes.
 func TestManyVisible(t *testing.T) {
+	t.Parallel()
 	maker := &graphMaker{}
 	counts := map[string]int{}
 	for i := range 6000 {

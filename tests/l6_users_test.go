@@ -566,6 +566,7 @@ func stopIfFailed(t *testing.T) {
 
 // TestAllSmallUsers goes through a module m beside a scope, with all lists of at most two of four items ahead of it and in each of these scopes.
 func TestAllSmallUsers(t *testing.T) {
+	t.Parallel()
 	lists := itemLists([]impl.Item{declares("m"), declares("x"), refers("x"), imports("m")}, 2)
 	counts := map[string]int{}
 	for _, first := range lists {
@@ -584,6 +585,7 @@ func TestAllSmallUsers(t *testing.T) {
 
 // TestManyUsers goes through graphs of all sizes, and counts what they show, so that the test is known to see it.
 func TestManyUsers(t *testing.T) {
+	t.Parallel()
 	maker := &graphMaker{}
 	counts := map[string]int{}
 	for i := range 3000 {
@@ -606,6 +608,7 @@ func TestManyUsers(t *testing.T) {
 
 // TestWhatNobodyMeansCanBeRemoved checks the promise by itself: just those declarations can be removed that nobody means, and in the end there are none of these left, while all references mean declarations of the same scopes as before.
 func TestWhatNobodyMeansCanBeRemoved(t *testing.T) {
+	t.Parallel()
 	maker := &graphMaker{}
 	for i := range 3000 {
 		g := maker.users(i)

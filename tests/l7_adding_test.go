@@ -508,6 +508,7 @@ func checkMovingModel(t *testing.T, r rest, means map[impl.Place][]impl.Place, c
 
 // TestAllSmallAdding goes through a module m beside a scope, with at most one of four items ahead of it, and all lists of at most two of them in each of these scopes.
 func TestAllSmallAdding(t *testing.T) {
+	t.Parallel()
 	items := []impl.Item{declares("m"), declares("x"), refers("x"), imports("m")}
 	lists := itemLists(items, 2)
 	counts := map[string]int{}
@@ -526,6 +527,7 @@ func TestAllSmallAdding(t *testing.T) {
 
 // TestManyAddings goes through graphs of all sizes, and counts what they show, so that the test is known to see it.
 func TestManyAddings(t *testing.T) {
+	t.Parallel()
 	maker := &graphMaker{}
 	counts := map[string]int{}
 	for i := range 1500 {

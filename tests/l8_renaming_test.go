@@ -415,6 +415,7 @@ func checkRenamingModel(t *testing.T, r rest, counts map[string]int) {
 
 // TestAllSmallRenaming goes through a module m beside a scope, with at most one of four items ahead of it, and all lists of at most two of them in each of these scopes.
 func TestAllSmallRenaming(t *testing.T) {
+	t.Parallel()
 	items := []impl.Item{declares("m"), declares("x"), refers("x"), imports("m")}
 	lists := itemLists(items, 2)
 	counts := map[string]int{}
@@ -430,6 +431,7 @@ func TestAllSmallRenaming(t *testing.T) {
 
 // TestManyRenamings goes through graphs of all sizes, and counts what they show, so that the test is known to see it.
 func TestManyRenamings(t *testing.T) {
+	t.Parallel()
 	maker := &graphMaker{}
 	counts := map[string]int{}
 	for i := range 600 {
@@ -488,6 +490,7 @@ func meantWithOthers(g impl.Graph) []impl.Place {
 
 // TestGoodRenamings checks the promise by itself: a renaming is good just if all items find the same then, one to a name that no item has just if nobody means the declaration with others, and a good one can be taken back.
 func TestGoodRenamings(t *testing.T) {
+	t.Parallel()
 	maker := &graphMaker{}
 	good, bad := 0, 0
 	for i := range 1500 {

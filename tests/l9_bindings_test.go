@@ -444,6 +444,7 @@ func allNamings(declarations int) []string {
 
 // TestAllSmallNaming goes through a module m beside a scope, with at most one of four items ahead of it, and all lists of at most two of them in each of these scopes.
 func TestAllSmallNaming(t *testing.T) {
+	t.Parallel()
 	items := []impl.Item{declares("m"), declares("x"), refers("x"), imports("m")}
 	lists := itemLists(items, 2)
 	counts := map[string]int{}
@@ -469,6 +470,7 @@ func (m *graphMaker) naming(declarations int, letters int) string {
 
 // TestManyNamings goes through graphs of all sizes, and counts what they show, so that the test is known to see it.
 func TestManyNamings(t *testing.T) {
+	t.Parallel()
 	maker := &graphMaker{}
 	counts := map[string]int{}
 	for i := range 3000 {
@@ -585,6 +587,7 @@ func TestNamedTwice(t *testing.T) {
 
 // TestNamedAsRenamed checks that one letter of a naming does what a renaming does.
 func TestNamedAsRenamed(t *testing.T) {
+	t.Parallel()
 	maker := &graphMaker{}
 	good, bad := 0, 0
 	for i := range 400 {
