@@ -352,13 +352,16 @@ func NamesOf(g Graph) (string, bool) {
 }
 
 // FormatPlaces returns the text of places.
-func FormatPlaces(list []Place) string {
+func FormatPlaces(list []Place) string { return listText(list, Place.text) }
+
+// listText returns the texts of elements with single spaces between them.
+func listText[T any](list []T, text func(T) string) string {
 	if len(list) == 0 {
 		return "-"
 	}
 	texts := make([]string, 0, len(list))
-	for _, p := range list {
-		texts = append(texts, p.text())
+	for _, x := range list {
+		texts = append(texts, text(x))
 	}
 	return strings.Join(texts, " ")
 }
